@@ -100,13 +100,23 @@ func Read(words string) (api.Op, api.Errno) {
 	return o, api.OK
 }
 
+// kindOf returns the kind of the operations that begin with a word; 0 if there are none.
+func kindOf(word string) int {
+	for kind, f := range forms {
+		if f.word == word {
+			return kind
+		}
+	}
+	return 0
+}
+
 // readOp returns the operation that words are; it may be one that is not valid.
 func readOp(words []string) (o api.Op, is bool) {
 	if len(words) == 0 {
 		return api.Op{}, false
 	}
-	o.Kind = slices.IndexFunc(forms[:], func(f form) bool { return f.word == words[0] })
-	if o.Kind < 0 {
+	o.Kind = kindOf(words[0])
+	if o.Kind == 0 {
 		return api.Op{}, false
 	}
 	rest := words[1:]

@@ -205,7 +205,7 @@ func TestRefusedMessages(t *testing.T) { // P20.2
 		{Kind: api.MsgStart, From: 1, To: 0, View: -1},
 		start(0, 0, 1), start(1, 1, 1), start(1, 2, 1), start(3, 0, 1), start(14, 0, 1), start(17, 0, 1), start(-1, 0, 1), start(1, -1, 1),
 		told(api.MsgOk, 17, 0, 0, 1), told(api.MsgOk, 3, 0, 0, 1),
-		request(1, x), {Kind: api.MsgRequest, From: 0, To: 0, Entry: x}, {Kind: api.MsgRequest, From: 4, To: 0, Entry: x}, {Kind: api.MsgRequest, From: 23, To: 0, Entry: x}, {Kind: api.MsgRequest, From: 17, To: 0},
+		request(1, x), {Kind: api.MsgRequest, From: 0, To: 0, Entry: x}, {Kind: api.MsgRequest, From: 1, To: 0, Entry: x}, {Kind: api.MsgRequest, From: 4, To: 0, Entry: x}, {Kind: api.MsgRequest, From: 23, To: 0, Entry: x}, {Kind: api.MsgRequest, From: 17, To: 0},
 	} {
 		if l, e := a.Handle(m); l != nil || e != api.ErrArg {
 			t.Error(i, e)
@@ -226,9 +226,9 @@ func TestRequest(t *testing.T) { // P20.2
 	handle(t, a, request(0, x), prepare(0, 1, 0, 1, 0, x), prepare(0, 2, 0, 1, 0, x), reply(0, 0, 1, x, ok(5), false))
 	handle(t, a, request(0, x), reply(0, 0, 1, x, ok(5), false))
 	forwarded := request(0, x)
-	forwarded.From = 2
+	forwarded.From = api.MaxNodes + 4
 	again := reply(0, 0, 1, x, ok(5), false)
-	again.To = 2
+	again.To = api.MaxNodes + 4
 	handle(t, a, forwarded, again) // the same request is answered to the sender
 	handle(t, a, told(api.MsgOk, 2, 0, 0, 1), reply(0, 0, 1, x, ok(5), true))
 	handle(t, a, request(0, x), reply(0, 0, 1, x, ok(5), true))
